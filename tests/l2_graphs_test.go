@@ -63,7 +63,7 @@ func graphsOf(most int) []impl.Graph {
 
 func badGraphs() []impl.Graph {
 	graphs := []impl.Graph{}
-	for _, size := range []int{-1, impl.MaxNodes + 1, math.MinInt, math.MaxInt} {
+	for _, size := range []int{-1, impl.MaxNodes + 1, 1 << 40, math.MinInt, math.MaxInt - 1, math.MaxInt} {
 		graphs = append(graphs, impl.Graph{Size: size}, impl.Graph{Size: size, Edges: [][2]int{{0, 1}}})
 	}
 	graphs = append(graphs, impl.Graph{Size: 0, Edges: [][2]int{{0, 1}}}, impl.Graph{Size: 1, Edges: [][2]int{{0, 1}}})
