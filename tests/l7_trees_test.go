@@ -315,6 +315,12 @@ func checkIsTree(t *testing.T, g impl.Graph, list []int, want bool) {
 	}
 }
 
+// isListBelow reports whether a list is strictly ascending and has only numbers in 0..n-1.
+func isListBelow(list []int, n int) bool {
+	isList := slices.IsSorted(list) && len(slices.Compact(slices.Clone(list))) == len(list)
+	return isList && (len(list) == 0 || list[0] >= 0 && list[len(list)-1] < n)
+}
+
 // TestIsTree tries all strictly ascending lists, and such lists as are none.
 func TestIsTree(t *testing.T) {
 	for _, g := range treeGraphs() {
@@ -329,9 +335,7 @@ func TestIsTree(t *testing.T) {
 		}
 		if g.Size > 0 && len(g.Edges) > 0 {
 			everyList(min(g.Size, 3), -1, min(len(g.Edges), 4), func(list []int) {
-				isList := slices.IsSorted(list) && len(slices.Compact(slices.Clone(list))) == len(list)
-				isList = isList && (len(list) == 0 || list[0] >= 0 && list[len(list)-1] < len(g.Edges))
-				checkIsTree(t, g, list, isList && isTreeOf(g, list))
+				checkIsTree(t, g, list, isListBelow(list, len(g.Edges)) && isTreeOf(g, list))
 			})
 		}
 	}
